@@ -1,0 +1,140 @@
+"""Intervals by the powers of their primes, and the equal steps that come nearest to them.
+
+Every function of the interface gives back one list: an answer's numbers, or a refusal's number alone.
+"""
+
+PRIMES = (2, 3, 5, 7, 11, 13)
+
+OUT_OF_RANGE = -2
+OTHER_PRIME = -3
+NOT_A_RATIO = -100
+
+MOST_BYTES = 64
+MOST_DIGITS = 18
+MOST_STEPS = 64
+MOST_POWER = 8
+
+SLASH = 47
+DIGIT_ZERO = 48
+DIGIT_NINE = 57
+
+
+def read(t):
+    """The powers of the interval that the text t tells."""
+    if len(t) > MOST_BYTES:
+        return [OUT_OF_RANGE]
+    parts = parts_between_slashes(t)
+    if len(parts) > 2 or not all([is_number(part) for part in parts]):
+        return [NOT_A_RATIO]
+    top = number_told(parts[0])
+    bottom = number_told(parts[1]) if len(parts) == 2 else 1
+    # What is alike on both sides of the slash cancels: 34/17 is the ratio 2/1 and has no other prime.
+    if without_primes(top) != without_primes(bottom):
+        return [OTHER_PRIME]
+    return [0] + [times_within(top, prime) - times_within(bottom, prime) for prime in PRIMES]
+
+
+def step(n, e):
+    """The step of n equal ones in an octave that is nearest to the interval e."""
+    if n < 1 or n > MOST_STEPS or not powers_in_range(e):
+        return [OUT_OF_RANGE]
+    return [0, nearest_step(n, e)]
+
+
+def parts_between_slashes(t):
+    parts = []
+    part = []
+    for byte in t:
+        if byte == SLASH:
+            parts.append(part)
+            part = []
+        else:
+            part.append(byte)
+    parts.append(part)
+    return parts
+
+
+def is_number(part):
+    if len(part) < 1 or len(part) > MOST_DIGITS or part[0] == DIGIT_ZERO:
+        return False
+    return all([DIGIT_ZERO <= byte <= DIGIT_NINE for byte in part])
+
+
+def number_told(part):
+    number = 0
+    for byte in part:
+        number = number * 10 + byte - DIGIT_ZERO
+    return number
+
+
+def times_within(number, prime):
+    """How many times the prime divides the number, which is above 0."""
+    times = 0
+    while number % prime == 0:
+        number = number // prime
+        times += 1
+    return times
+
+
+def without_primes(number):
+    """What is left of the number, which is above 0, once the six primes are divided out."""
+    for prime in PRIMES:
+        while number % prime == 0:
+            number = number // prime
+    return number
+
+
+def powers_in_range(e):
+    return all([-MOST_POWER <= power <= MOST_POWER for power in e])
+
+
+def repeated(factor, times):
+    """The factor multiplied by itself; 1 if times is 0 or below."""
+    product = 1
+    for turn in range(times):
+        product = product * factor
+    return product
+
+
+def top_of(e):
+    product = 1
+    for prime, power in zip(PRIMES, e):
+        product = product * repeated(prime, power)
+    return product
+
+
+def bottom_of(e):
+    return top_of([-power for power in e])
+
+
+def octaves_within(e):
+    """How many octaves to take from e so that from 1/1 to below 2/1 is left; below 0 if e is below 1/1."""
+    top = top_of(e)
+    bottom = bottom_of(e)
+    octaves = 0
+    while top >= 2 * bottom:
+        bottom = 2 * bottom
+        octaves += 1
+    while top < bottom:
+        top = 2 * top
+        octaves -= 1
+    return octaves
+
+
+def less_octaves(e, octaves):
+    return [e[0] - octaves] + e[1:]
+
+
+def nearest_step(n, e):
+    octaves = octaves_within(e)
+    rest = less_octaves(e, octaves)
+    # k + 1 is nearer than k just if n times the logarithm is above k + 1/2. Doubled, that is a whole
+    # number: the ratio to 2 n is above 2 to 2 k + 1. The two are never equal, since 2 to 2 k + 1 is
+    # no ratio's square, so there is no tie to settle.
+    top = repeated(top_of(rest), 2 * n)
+    bottom = repeated(bottom_of(rest), 2 * n)
+    k = 0
+    while top > 2 * bottom:
+        bottom = 4 * bottom
+        k += 1
+    return n * octaves + k

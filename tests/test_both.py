@@ -1,0 +1,105 @@
+"""What holds of every function of the interface: nothing changed, nothing kept, ints alone, nothing drawn in."""
+
+import ast
+import contextlib
+import inspect
+import io
+import pathlib
+import unittest
+
+import evensteps
+from evensteps import tunings
+
+CALLS = (
+    (tunings.read, ([51, 47, 50],)),
+    (tunings.read, ([50],)),
+    (tunings.read, ([49, 55],)),
+    (tunings.read, ([],)),
+    (tunings.read, ([48, 47, 47],)),
+    (tunings.read, ([49] * 64,)),
+    (tunings.read, ([49] * 65,)),
+    (tunings.step, (12, [-1, 1, 0, 0, 0, 0])),
+    (tunings.step, (12, [1, -1, 0, 0, 0, 0])),
+    (tunings.step, (1, [0, 0, 0, 0, 0, 0])),
+    (tunings.step, (1, [0, -1, 0, 0, 0, 0])),
+    (tunings.step, (64, [8, 8, 8, 8, 8, 8])),
+    (tunings.step, (0, [0, 0, 0, 0, 0, 0])),
+    (tunings.step, (12, [0, 0, 0, 0, 0, 9])),
+)
+
+
+class Watched(list):
+    """A list that fails the test as soon as it is changed, even if it would be changed back."""
+
+    def refuse(self, *arguments, **keywords):
+        raise AssertionError("what is handed in was changed")
+
+    append = clear = extend = insert = pop = remove = reverse = sort = refuse
+    __setitem__ = __delitem__ = __iadd__ = __imul__ = refuse
+
+
+def copied(arguments, kind):
+    return [kind(argument) if isinstance(argument, list) else argument for argument in arguments]
+
+
+class EveryCall(unittest.TestCase):
+    def test_handed_in_is_not_changed(self):
+        for call, arguments in CALLS:
+            given = copied(arguments, Watched)
+            call(*given)
+            self.assertEqual(given, list(arguments))
+
+    def test_second_call_gives_the_same(self):
+        first = [call(*copied(arguments, list)) for call, arguments in CALLS]
+        again = [call(*copied(arguments, list)) for call, arguments in reversed(CALLS)]
+        self.assertEqual(first, list(reversed(again)))
+
+    def test_changing_an_answer_does_not_change_the_next(self):
+        for call, arguments in CALLS:
+            answer = call(*copied(arguments, list))
+            kept = list(answer)
+            answer[0] = 77
+            answer.append(78)
+            self.assertEqual(call(*copied(arguments, list)), kept)
+
+    def test_answer_is_a_list_of_ints(self):
+        for call, arguments in CALLS:
+            answer = call(*copied(arguments, list))
+            self.assertIs(type(answer), list)
+            for number in answer:
+                self.assertIs(type(number), int)
+
+    def test_answer_has_its_length(self):
+        for call, arguments in CALLS:
+            answer = call(*copied(arguments, list))
+            whole = {tunings.read: 7, tunings.step: 2}[call]
+            self.assertEqual(len(answer), 1 if answer[0] < 0 else whole)
+            self.assertLessEqual(answer[0], 0)
+
+    def test_nothing_is_printed(self):
+        out = io.StringIO()
+        with contextlib.redirect_stdout(out), contextlib.redirect_stderr(out):
+            for call, arguments in CALLS:
+                call(*copied(arguments, list))
+        self.assertEqual(out.getvalue(), "")
+
+
+class Interface(unittest.TestCase):
+    def test_parameters(self):
+        self.assertEqual(list(inspect.signature(tunings.read).parameters), ["t"])
+        self.assertEqual(list(inspect.signature(tunings.step).parameters), ["n", "e"])
+
+    def test_arguments_by_name(self):
+        self.assertEqual(tunings.read(t=[51, 47, 50]), [0, -1, 1, 0, 0, 0, 0])
+        self.assertEqual(tunings.step(n=12, e=[-1, 1, 0, 0, 0, 0]), [0, 7])
+
+    def test_whole_numbers_alone_and_no_imports(self):
+        for path in sorted(pathlib.Path(evensteps.__file__).parent.glob("*.py")):
+            for node in ast.walk(ast.parse(path.read_text(encoding="ascii"))):
+                self.assertNotIsInstance(node, (ast.Import, ast.ImportFrom, ast.Div), path.name)
+                if isinstance(node, ast.Constant):
+                    self.assertNotIsInstance(node.value, (float, complex), path.name)
+
+
+if __name__ == "__main__":
+    unittest.main()
