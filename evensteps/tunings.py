@@ -1,9 +1,10 @@
-"""Intervals by the powers of their primes, and the equal steps that come nearest to them.
+"""Intervals by the powers of their primes, the equal steps that come nearest to them, and how far these are off.
 
 Every function of the interface gives back one list: an answer's numbers, or a refusal's number alone.
 """
 
 PRIMES = (2, 3, 5, 7, 11, 13)
+UNISON = (0, 0, 0, 0, 0, 0)
 
 OUT_OF_RANGE = -2
 OTHER_PRIME = -3
@@ -12,6 +13,7 @@ NOT_A_RATIO = -100
 MOST_BYTES = 64
 MOST_DIGITS = 18
 MOST_STEPS = 64
+MOST_INTERVALS = 16
 MOST_POWER = 8
 
 SLASH = 47
@@ -36,9 +38,23 @@ def read(t):
 
 def step(n, e):
     """The step of n equal ones in an octave that is nearest to the interval e."""
-    if n < 1 or n > MOST_STEPS or not powers_in_range(e):
+    if not steps_in_range(n) or not powers_in_range(e):
         return [OUT_OF_RANGE]
     return [0, nearest_step(n, e)]
+
+
+def val(n):
+    """The nearest steps of the six primes by n."""
+    if not steps_in_range(n):
+        return [OUT_OF_RANGE]
+    return [0] + val_numbers(n)
+
+
+def worst(n, l):
+    """Which of the intervals in l is farthest off its nearest step by n."""
+    if not steps_in_range(n) or not intervals_in_range(l):
+        return [OUT_OF_RANGE]
+    return [first_largest([off_by(n, e) for e in intervals_of(l)])]
 
 
 def parts_between_slashes(t):
@@ -84,16 +100,31 @@ def without_primes(number):
     return number
 
 
+def steps_in_range(n):
+    return 1 <= n <= MOST_STEPS
+
+
 def powers_in_range(e):
     return all([-MOST_POWER <= power <= MOST_POWER for power in e])
 
 
+def intervals_in_range(l):
+    return 1 <= len(l) // len(PRIMES) <= MOST_INTERVALS and powers_in_range(l)
+
+
+def intervals_of(l):
+    return [l[start:start + len(PRIMES)] for start in range(0, len(l), len(PRIMES))]
+
+
 def repeated(factor, times):
     """The factor multiplied by itself; 1 if times is 0 or below."""
-    product = 1
-    for turn in range(times):
-        product = product * factor
-    return product
+    if times <= 0:
+        return 1
+    # By halves, since the powers that are compared run into thousands.
+    half = repeated(factor, times // 2)
+    if times % 2 == 1:
+        return half * half * factor
+    return half * half
 
 
 def top_of(e):
@@ -105,6 +136,20 @@ def top_of(e):
 
 def bottom_of(e):
     return top_of([-power for power in e])
+
+
+def is_below(e, other):
+    between = difference(e, other)
+    return top_of(between) < bottom_of(between)
+
+
+def difference(e, other):
+    """What is left of e once the other interval is taken from it."""
+    return [power - taken for power, taken in zip(e, other)]
+
+
+def taken_times(times, e):
+    return [times * power for power in e]
 
 
 def octaves_within(e):
@@ -138,3 +183,44 @@ def nearest_step(n, e):
         bottom = 4 * bottom
         k += 1
     return n * octaves + k
+
+
+def val_numbers(n):
+    return [nearest_step(n, prime_alone(prime)) for prime in PRIMES]
+
+
+def prime_alone(prime):
+    """The interval of the prime to 1."""
+    return [1 if other == prime else 0 for other in PRIMES]
+
+
+def off_by(n, e):
+    """How far e is off by n, times n, as an interval that is not below 1/1.
+
+    The interval taken n times less one octave for each step is, told in octaves, just the difference in
+    steps. It is turned round if it is below 1/1, as only how far it is off counts.
+    """
+    off = less_octaves(taken_times(n, e), nearest_step(n, e))
+    if is_below(off, UNISON):
+        return difference(UNISON, off)
+    return off
+
+
+def first_largest(intervals):
+    lowest = lowest_powers(intervals)
+    sizes = [size_above(lowest, e) for e in intervals]
+    return sizes.index(max(sizes))
+
+
+def lowest_powers(intervals):
+    """For each prime the lowest power that one of the intervals has."""
+    return [min([e[place] for e in intervals]) for place in range(len(PRIMES))]
+
+
+def size_above(lowest, e):
+    """The whole number that e is a multiple of the lowest powers by.
+
+    Taken above the same lowest powers, such numbers are to one another as the intervals' ratios are, so
+    intervals are held against one another by whole numbers alone.
+    """
+    return top_of(difference(e, lowest))

@@ -4,10 +4,7 @@ import unittest
 from fractions import Fraction
 
 from evensteps.tunings import step
-
-PRIMES = (2, 3, 5, 7, 11, 13)
-LEAST = -2147483648
-GREATEST = 2147483647
+from helper import BEYOND_POWERS, BEYOND_STEPS, FIFTH, GREATEST, LEAST, alone, ratio, spread, turned
 
 # n, then the powers of 3, 5, 7, 11, 13: where n times the logarithm lies closest to the middle of two
 # steps, of all that may be handed in (the first: some 4 in 10 ** 9 off the middle).
@@ -23,24 +20,6 @@ CLOSEST_TO_THE_MIDDLE = (
     (15, 8, 6, 3, 0, 0),
     (6, 5, -4, -6, 6, 1),
 )
-
-
-def ratio(e):
-    product = Fraction(1)
-    for prime, power in zip(PRIMES, e):
-        product *= Fraction(prime) ** power
-    return product
-
-
-def spread(count):
-    """As many calls' arguments, spread over all that may be handed in, the same each time."""
-    state = 1
-    for _ in range(count):
-        numbers = []
-        for size in (64, 17, 17, 17, 17, 17, 17):
-            state = (state * 6364136223846793005 + 1442695040888963407) % 2 ** 64
-            numbers.append((state >> 33) % size)
-        yield numbers[0] + 1, [number - 8 for number in numbers[1:]]
 
 
 class Nearest(unittest.TestCase):
@@ -90,9 +69,7 @@ class Nearest(unittest.TestCase):
         for n in range(1, 65):
             for place in range(6):
                 for power in (-8, -1, 1, 8):
-                    e = [0] * 6
-                    e[place] = power
-                    self.check(n, e)
+                    self.check(n, alone(place, power))
 
     def test_ends_of_the_powers_together(self):
         for signs in range(64):
@@ -110,7 +87,7 @@ class Nearest(unittest.TestCase):
         for n, *odd in CLOSEST_TO_THE_MIDDLE:
             for octaves in (-8, 0, 8):
                 self.check(n, [octaves] + odd)
-                self.check(n, [octaves] + [-power for power in odd])
+                self.check(n, [octaves] + turned(odd))
 
     def test_spread_over_all(self):
         for n, e in spread(2000):
@@ -118,22 +95,20 @@ class Nearest(unittest.TestCase):
 
     def test_turned_round_is_the_same_below_zero(self):
         for n, e in spread(200):
-            self.assertEqual(step(n, [-power for power in e])[1], -step(n, e)[1])
+            self.assertEqual(step(n, turned(e))[1], -step(n, e)[1])
 
 
 class OutOfRange(unittest.TestCase):
     def test_n(self):
-        fifth = [-1, 1, 0, 0, 0, 0]
-        for n in (0, 65, -1, -12, 66, 128, LEAST, GREATEST):
-            self.assertEqual(step(n, fifth), [-2], n)
-        self.assertEqual(step(1, fifth), [0, 1])
-        self.assertEqual(step(64, fifth), [0, 37])
+        for n in BEYOND_STEPS:
+            self.assertEqual(step(n, FIFTH), [-2], n)
+        self.assertEqual(step(1, FIFTH), [0, 1])
+        self.assertEqual(step(64, FIFTH), [0, 37])
 
     def test_each_power(self):
         for place in range(6):
-            for power in (-9, 9, 100, -100, LEAST, GREATEST):
-                e = [0] * 6
-                e[place] = power
+            for power in BEYOND_POWERS:
+                e = alone(place, power)
                 self.assertEqual(step(12, e), [-2], e)
                 e = [8, -8, 8, -8, 8, -8]
                 e[place] = power
@@ -142,8 +117,7 @@ class OutOfRange(unittest.TestCase):
     def test_each_power_at_its_ends(self):
         for place in range(6):
             for power in (-8, 8):
-                e = [0] * 6
-                e[place] = power
+                e = alone(place, power)
                 self.assertEqual(step(12, e)[0], 0, e)
 
     def test_both(self):

@@ -25,7 +25,31 @@ CALLS = (
     (tunings.step, (64, [8, 8, 8, 8, 8, 8])),
     (tunings.step, (0, [0, 0, 0, 0, 0, 0])),
     (tunings.step, (12, [0, 0, 0, 0, 0, 9])),
+    (tunings.val, (12,)),
+    (tunings.val, (1,)),
+    (tunings.val, (64,)),
+    (tunings.val, (0,)),
+    (tunings.worst, (12, [-1, 1, 0, 0, 0, 0])),
+    (tunings.worst, (12, [-1, 1, 0, 0, 0, 0, 2, 0, -1, 0, 0, 0])),
+    (tunings.worst, (1, [1, 0, 0, 0, 0, 0] * 16)),
+    (tunings.worst, (64, [8, -8, 8, -8, 8, -8] * 16)),
+    (tunings.worst, (12, [])),
+    (tunings.worst, (65, [0, 0, 0, 0, 0, 0])),
+    (tunings.worst, (12, [0, 0, 0, 0, 0, 9])),
 )
+
+PARAMETERS = {
+    tunings.read: ["t"],
+    tunings.step: ["n", "e"],
+    tunings.val: ["n"],
+    tunings.worst: ["n", "l"],
+}
+
+# How many numbers an answer has that is no refusal.
+LENGTHS = {tunings.read: 7, tunings.step: 2, tunings.val: 7, tunings.worst: 1}
+
+# The functions whose answers begin with 0.
+BEGIN_WITH_ZERO = (tunings.read, tunings.step, tunings.val)
 
 
 class Watched(list):
@@ -72,9 +96,9 @@ class EveryCall(unittest.TestCase):
     def test_answer_has_its_length(self):
         for call, arguments in CALLS:
             answer = call(*copied(arguments, list))
-            whole = {tunings.read: 7, tunings.step: 2}[call]
-            self.assertEqual(len(answer), 1 if answer[0] < 0 else whole)
-            self.assertLessEqual(answer[0], 0)
+            self.assertEqual(len(answer), 1 if answer[0] < 0 else LENGTHS[call])
+            if call in BEGIN_WITH_ZERO:
+                self.assertLessEqual(answer[0], 0)
 
     def test_nothing_is_printed(self):
         out = io.StringIO()
@@ -86,12 +110,13 @@ class EveryCall(unittest.TestCase):
 
 class Interface(unittest.TestCase):
     def test_parameters(self):
-        self.assertEqual(list(inspect.signature(tunings.read).parameters), ["t"])
-        self.assertEqual(list(inspect.signature(tunings.step).parameters), ["n", "e"])
+        for call, parameters in PARAMETERS.items():
+            self.assertEqual(list(inspect.signature(call).parameters), parameters)
 
     def test_arguments_by_name(self):
-        self.assertEqual(tunings.read(t=[51, 47, 50]), [0, -1, 1, 0, 0, 0, 0])
-        self.assertEqual(tunings.step(n=12, e=[-1, 1, 0, 0, 0, 0]), [0, 7])
+        for call, arguments in CALLS:
+            named = dict(zip(PARAMETERS[call], copied(arguments, list)))
+            self.assertEqual(call(**named), call(*copied(arguments, list)))
 
     def test_whole_numbers_alone_and_no_imports(self):
         for path in sorted(pathlib.Path(evensteps.__file__).parent.glob("*.py")):
