@@ -8,6 +8,7 @@ UNISON = (0, 0, 0, 0, 0, 0)
 
 OUT_OF_RANGE = -2
 OTHER_PRIME = -3
+BY_NONE = -3
 NOT_A_RATIO = -100
 
 MOST_BYTES = 64
@@ -57,6 +58,32 @@ def worst(n, l):
     return [first_largest([off_by(n, e) for e in intervals_of(l)])]
 
 
+def best(a, z, l):
+    """The first n from a to z by which the farthest off of the intervals in l is least far off."""
+    if not span_in_range(a, z) or not intervals_in_range(l):
+        return [OUT_OF_RANGE]
+    intervals = intervals_of(l)
+    chosen = a
+    least = farthest_off(a, intervals)
+    for n in range(a + 1, z + 1):
+        off = farthest_off(n, intervals)
+        # Each is n times too much, by its own n: taken times the other's n, the two are alike in that.
+        if is_below(taken_times(chosen, off), taken_times(n, least)):
+            chosen = n
+            least = off
+    return [chosen]
+
+
+def vanish(a, z, e):
+    """The first n from a to z by which the interval e is tempered to 0."""
+    if not span_in_range(a, z) or not powers_in_range(e):
+        return [OUT_OF_RANGE]
+    for n in range(a, z + 1):
+        if tempered(n, e) == 0:
+            return [n]
+    return [BY_NONE]
+
+
 def parts_between_slashes(t):
     parts = []
     part = []
@@ -102,6 +129,10 @@ def without_primes(number):
 
 def steps_in_range(n):
     return 1 <= n <= MOST_STEPS
+
+
+def span_in_range(a, z):
+    return 1 <= a <= z <= MOST_STEPS
 
 
 def powers_in_range(e):
@@ -189,6 +220,10 @@ def val_numbers(n):
     return [nearest_step(n, prime_alone(prime)) for prime in PRIMES]
 
 
+def tempered(n, e):
+    return sum([power * number for power, number in zip(e, val_numbers(n))])
+
+
 def prime_alone(prime):
     """The interval of the prime to 1."""
     return [1 if other == prime else 0 for other in PRIMES]
@@ -204,6 +239,11 @@ def off_by(n, e):
     if is_below(off, UNISON):
         return difference(UNISON, off)
     return off
+
+
+def farthest_off(n, intervals):
+    offs = [off_by(n, e) for e in intervals]
+    return offs[first_largest(offs)]
 
 
 def first_largest(intervals):

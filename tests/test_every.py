@@ -36,6 +36,18 @@ CALLS = (
     (tunings.worst, (12, [])),
     (tunings.worst, (65, [0, 0, 0, 0, 0, 0])),
     (tunings.worst, (12, [0, 0, 0, 0, 0, 9])),
+    (tunings.best, (1, 24, [-1, 1, 0, 0, 0, 0])),
+    (tunings.best, (5, 31, [-1, 1, 0, 0, 0, 0, 2, 0, -1, 0, 0, 0])),
+    (tunings.best, (60, 64, [8, -8, 8, -8, 8, -8] * 16)),
+    (tunings.best, (1, 64, [1, 0, 0, 0, 0, 0])),
+    (tunings.best, (1, 64, [])),
+    (tunings.best, (2, 1, [0, 0, 0, 0, 0, 0])),
+    (tunings.best, (1, 64, [0, 0, 0, 0, 0, 9])),
+    (tunings.vanish, (1, 64, [-4, 4, -1, 0, 0, 0])),
+    (tunings.vanish, (1, 64, [0, 0, 0, 0, 0, 0])),
+    (tunings.vanish, (1, 64, [1, 0, 0, 0, 0, 0])),
+    (tunings.vanish, (1, 65, [0, 0, 0, 0, 0, 0])),
+    (tunings.vanish, (1, 64, [0, 0, 0, 0, 0, 9])),
 )
 
 PARAMETERS = {
@@ -43,10 +55,19 @@ PARAMETERS = {
     tunings.step: ["n", "e"],
     tunings.val: ["n"],
     tunings.worst: ["n", "l"],
+    tunings.best: ["a", "z", "l"],
+    tunings.vanish: ["a", "z", "e"],
 }
 
 # How many numbers an answer has that is no refusal.
-LENGTHS = {tunings.read: 7, tunings.step: 2, tunings.val: 7, tunings.worst: 1}
+LENGTHS = {
+    tunings.read: 7,
+    tunings.step: 2,
+    tunings.val: 7,
+    tunings.worst: 1,
+    tunings.best: 1,
+    tunings.vanish: 1,
+}
 
 # The functions whose answers begin with 0.
 BEGIN_WITH_ZERO = (tunings.read, tunings.step, tunings.val)
