@@ -1,11 +1,13 @@
-"""Intervals by the powers of their primes, the equal steps that come nearest to them, and how far these are off.
+"""Intervals by the powers of their primes, the equal steps that come nearest to them, and scales of them.
 
 Every function of the interface gives back one list: an answer's numbers, or a refusal's number alone.
 """
 
 PRIMES = (2, 3, 5, 7, 11, 13)
 UNISON = (0, 0, 0, 0, 0, 0)
+OCTAVE = (1, 0, 0, 0, 0, 0)
 
+MORE_THAN_MOST = -1
 OUT_OF_RANGE = -2
 OTHER_PRIME = -3
 BY_NONE = -3
@@ -16,6 +18,7 @@ MOST_DIGITS = 18
 MOST_STEPS = 64
 MOST_INTERVALS = 16
 MOST_POWER = 8
+MOST_TONES = 64
 
 SLASH = 47
 DIGIT_ZERO = 48
@@ -84,6 +87,20 @@ def vanish(a, z, e):
     return [BY_NONE]
 
 
+def scale(c, most, e):
+    """The c tones of the interval e, ascending."""
+    if not scale_in_range(c, most, e):
+        return [OUT_OF_RANGE]
+    return told_up_to(most, tones_of(c, e))
+
+
+def kinds(c, most, e):
+    """The steps that are different in the scale of c tones of the interval e, ascending."""
+    if not scale_in_range(c, most, e):
+        return [OUT_OF_RANGE]
+    return told_up_to(most, ascending(different(steps_between(tones_of(c, e)))))
+
+
 def parts_between_slashes(t):
     parts = []
     part = []
@@ -141,6 +158,16 @@ def powers_in_range(e):
 
 def intervals_in_range(l):
     return 1 <= len(l) // len(PRIMES) <= MOST_INTERVALS and powers_in_range(l)
+
+
+def scale_in_range(c, most, e):
+    if c < 1 or c > MOST_TONES or most < 0 or most > MOST_TONES:
+        return False
+    return powers_in_range(e) and not only_octaves(e)
+
+
+def only_octaves(e):
+    return all([power == 0 for power in e[1:]])
 
 
 def intervals_of(l):
@@ -264,3 +291,48 @@ def size_above(lowest, e):
     intervals are held against one another by whole numbers alone.
     """
     return top_of(difference(e, lowest))
+
+
+def ascending(intervals):
+    lowest = lowest_powers(intervals)
+    return sorted(intervals, key=lambda e: size_above(lowest, e))
+
+
+def tones_of(c, e):
+    tones = []
+    tone = list(UNISON)
+    for turn in range(c):
+        tones.append(tone)
+        tone = within_octave(together(tone, e))
+    return ascending(tones)
+
+
+def together(e, other):
+    """The two intervals one on another."""
+    return [power + more for power, more in zip(e, other)]
+
+
+def within_octave(e):
+    return less_octaves(e, octaves_within(e))
+
+
+def steps_between(tones):
+    """From each of the ascending tones to the next, and from the last to the octave."""
+    return [difference(upper, lower) for lower, upper in zip(tones, tones[1:] + [list(OCTAVE)])]
+
+
+def different(intervals):
+    found = []
+    for e in intervals:
+        if e not in found:
+            found.append(e)
+    return found
+
+
+def told_up_to(most, intervals):
+    if len(intervals) > most:
+        return [MORE_THAN_MOST]
+    answer = [len(intervals)]
+    for e in intervals:
+        answer.extend(e)
+    return answer

@@ -16,6 +16,25 @@ BEYOND_SPANS = (
     (LEAST, LEAST), (LEAST, GREATEST), (GREATEST, LEAST), (GREATEST, GREATEST),
 )
 
+# c and most, one of them or both out of range.
+BEYOND_SCALES = (
+    (0, 64), (65, 64), (-1, 64), (LEAST, 64), (GREATEST, 64), (0, 0), (65, 0), (66, 64),
+    (12, -1), (12, 65), (12, LEAST), (12, GREATEST), (1, -1), (64, 65), (64, -1), (12, 66),
+    (0, -1), (65, 65), (LEAST, LEAST), (LEAST, GREATEST), (GREATEST, LEAST), (GREATEST, GREATEST),
+)
+
+# The interval to so many times is nearest to octaves, of all that may be handed in, so that tones of its scale lie
+# nearest to one another (the first: some 4 in 10 ** 8 of an octave).
+NEAR_TO_OCTAVES = (
+    (27, (5, 6, -7, -8, -8)),
+    (49, (1, 5, 2, -4, -5)),
+    (11, (8, -2, -3, -3, 2)),
+    (39, (6, -6, 3, -7, -5)),
+    (61, (5, 8, 2, 3, -7)),
+    (4, (5, -4, -6, 6, 1)),
+    (1, (2, 4, 4, 7, -7)),
+)
+
 UNISON = [0, 0, 0, 0, 0, 0]
 OCTAVE = [1, 0, 0, 0, 0, 0]
 FIFTH = [-1, 1, 0, 0, 0, 0]
@@ -43,6 +62,35 @@ def nearest(n, e):
 def off(n, e):
     """How far e is off by n: what differs at all differs far ahead of the 60th place, the rest is alike."""
     return round(abs(n * octaves(e) - nearest(n, e)) / n, 60)
+
+
+def scale_by_fractions(c, e):
+    """The tones of the scale, each with its ratio, ascending."""
+    tones = []
+    for times in range(c):
+        size = ratio(e) ** times
+        powers = [times * power for power in e]
+        while size >= 2:
+            size /= 2
+            powers[0] -= 1
+        while size < 1:
+            size *= 2
+            powers[0] += 1
+        tones.append((size, powers))
+    return sorted(tones)
+
+
+def kinds_by_fractions(c, e):
+    """The different steps of the scale, each with its ratio, ascending."""
+    tones = scale_by_fractions(c, e) + [(Fraction(2), OCTAVE)]
+    steps = {}
+    for (lower, taken), (upper, powers) in zip(tones, tones[1:]):
+        steps[upper / lower] = [power - less for power, less in zip(powers, taken)]
+    return sorted(steps.items())
+
+
+def told(rows):
+    return [len(rows)] + joined([powers for _, powers in rows])
 
 
 def turned(e):

@@ -4,7 +4,10 @@ import ast
 import contextlib
 import inspect
 import io
+import math
 import pathlib
+import sys
+import types
 import unittest
 
 import evensteps
@@ -48,6 +51,18 @@ CALLS = (
     (tunings.vanish, (1, 64, [1, 0, 0, 0, 0, 0])),
     (tunings.vanish, (1, 65, [0, 0, 0, 0, 0, 0])),
     (tunings.vanish, (1, 64, [0, 0, 0, 0, 0, 9])),
+    (tunings.scale, (1, 64, [-1, 1, 0, 0, 0, 0])),
+    (tunings.scale, (7, 7, [-1, 1, 0, 0, 0, 0])),
+    (tunings.scale, (64, 64, [8, -8, 8, -8, 8, -8])),
+    (tunings.scale, (7, 6, [-1, 1, 0, 0, 0, 0])),
+    (tunings.scale, (7, 7, [1, 0, 0, 0, 0, 0])),
+    (tunings.scale, (0, 7, [-1, 1, 0, 0, 0, 0])),
+    (tunings.kinds, (1, 64, [-1, 1, 0, 0, 0, 0])),
+    (tunings.kinds, (7, 2, [-1, 1, 0, 0, 0, 0])),
+    (tunings.kinds, (64, 64, [8, -8, 8, -8, 8, -8])),
+    (tunings.kinds, (7, 1, [-1, 1, 0, 0, 0, 0])),
+    (tunings.kinds, (7, 7, [1, 0, 0, 0, 0, 0])),
+    (tunings.kinds, (7, 65, [-1, 1, 0, 0, 0, 0])),
 )
 
 PARAMETERS = {
@@ -57,9 +72,11 @@ PARAMETERS = {
     tunings.worst: ["n", "l"],
     tunings.best: ["a", "z", "l"],
     tunings.vanish: ["a", "z", "e"],
+    tunings.scale: ["c", "most", "e"],
+    tunings.kinds: ["c", "most", "e"],
 }
 
-# How many numbers an answer has that is no refusal.
+# How many numbers an answer has that is no refusal, where that is always the same.
 LENGTHS = {
     tunings.read: 7,
     tunings.step: 2,
@@ -87,6 +104,13 @@ def copied(arguments, kind):
     return [kind(argument) if isinstance(argument, list) else argument for argument in arguments]
 
 
+def as_if_first(call, arguments):
+    """What the call answers in a module made anew for it."""
+    fresh = types.ModuleType("fresh")
+    exec(inspect.getsource(tunings), vars(fresh))
+    return getattr(fresh, call.__name__)(*copied(arguments, list))
+
+
 class EveryCall(unittest.TestCase):
     def test_handed_in_is_not_changed(self):
         for call, arguments in CALLS:
@@ -98,6 +122,27 @@ class EveryCall(unittest.TestCase):
         first = [call(*copied(arguments, list)) for call, arguments in CALLS]
         again = [call(*copied(arguments, list)) for call, arguments in reversed(CALLS)]
         self.assertEqual(first, list(reversed(again)))
+
+    def test_in_whatever_order_as_if_for_the_first_time(self):
+        first = [as_if_first(call, arguments) for call, arguments in CALLS]
+        # Each of these strides has no divisor in common with how many calls there are, so it meets them all.
+        strides = [stride for stride in range(1, len(CALLS)) if math.gcd(stride, len(CALLS)) == 1]
+        for stride in strides[:6] + strides[-6:]:
+            for turn in range(len(CALLS)):
+                place = turn * stride % len(CALLS)
+                call, arguments = CALLS[place]
+                self.assertEqual(call(*copied(arguments, list)), first[place], CALLS[place])
+
+    def test_all_eight_are_called(self):
+        names = {call.__name__ for call, _ in CALLS}
+        self.assertEqual(names, {"read", "step", "val", "worst", "best", "vanish", "scale", "kinds"})
+
+    def test_nothing_of_the_module_is_changed(self):
+        before = {name: repr(value) for name, value in vars(tunings).items() if not name.startswith("__")}
+        for call, arguments in CALLS:
+            call(*copied(arguments, list))
+        after = {name: repr(value) for name, value in vars(tunings).items() if not name.startswith("__")}
+        self.assertEqual(before, after)
 
     def test_changing_an_answer_does_not_change_the_next(self):
         for call, arguments in CALLS:
@@ -117,7 +162,7 @@ class EveryCall(unittest.TestCase):
     def test_answer_has_its_length(self):
         for call, arguments in CALLS:
             answer = call(*copied(arguments, list))
-            self.assertEqual(len(answer), 1 if answer[0] < 0 else LENGTHS[call])
+            self.assertEqual(len(answer), 1 if answer[0] < 0 else LENGTHS.get(call, 1 + 6 * answer[0]))
             if call in BEGIN_WITH_ZERO:
                 self.assertLessEqual(answer[0], 0)
 
@@ -127,6 +172,24 @@ class EveryCall(unittest.TestCase):
             for call, arguments in CALLS:
                 call(*copied(arguments, list))
         self.assertEqual(out.getvalue(), "")
+
+    def test_nothing_is_opened_read_or_imported(self):
+        seen = []
+        watching = []
+
+        def watch(event, details):
+            if watching:
+                seen.append(event)
+
+        sys.addaudithook(watch)
+        watching.append(True)
+        open(__file__, encoding="ascii").close()
+        self.assertIn("open", seen)
+        seen.clear()
+        for call, arguments in CALLS:
+            call(*copied(arguments, list))
+        watching.clear()
+        self.assertEqual(seen, [])
 
 
 class Interface(unittest.TestCase):
