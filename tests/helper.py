@@ -23,8 +23,9 @@ BEYOND_SCALES = (
     (0, -1), (65, 65), (LEAST, LEAST), (LEAST, GREATEST), (GREATEST, LEAST), (GREATEST, GREATEST),
 )
 
-# The interval to so many times is nearest to octaves, of all that may be handed in, so that tones of its scale lie
-# nearest to one another (the first: some 4 in 10 ** 8 of an octave).
+# How many times, and the powers of 3, 5, 7, 11, 13 of the interval that a search over all powers found nearest to
+# octaves when taken as many times, so that tones of its scale lie near to one another (the first: some 4 in 10 ** 8
+# of an octave).
 NEAR_TO_OCTAVES = (
     (27, (5, 6, -7, -8, -8)),
     (49, (1, 5, 2, -4, -5)),

@@ -12,8 +12,8 @@ SEVENTH = [-2, 0, 0, 1, 0, 0]
 MINOR_THIRD = [1, 1, -1, 0, 0, 0]
 
 # n, then two intervals' powers of 3, 5, 7, 11, 13: by n the first is farther off, by n + 1 the second, and these
-# two are off nearest to alike but not alike, of all that may be handed in (the first: some 1 in 10 ** 12 of an
-# octave).
+# two are off nearly alike (the first: some 1 in 10 ** 12 of an octave). They came of a search that held n against
+# n + 1 alone and each interval against its two neighbours alone, so there may be pairs that are nearer to alike.
 NEARLY_ALIKE = (
     (31, (8, 8, -6, -7, -3), (8, 7, -3, -7, 4)),
     (53, (7, 8, -8, -7, -3), (8, 8, 5, -6, -4)),

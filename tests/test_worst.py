@@ -10,8 +10,8 @@ from helper import (
 
 SEVENTH = [-2, 0, 0, 1, 0, 0]
 
-# n, then two intervals' powers of 3, 5, 7, 11, 13, the second a little farther off: of all that may be handed
-# in, pairs that are off nearest to alike but not alike (the first: some 3 in 10 ** 10 of a step).
+# n, then two intervals' powers of 3, 5, 7, 11, 13, the second a little farther off: for each of these n the pair
+# that a search over all powers found off nearest to alike but not alike (the first: some 3 in 10 ** 10 of a step).
 NEARLY_ALIKE = (
     (53, (8, 8, -2, 5, 6), (7, -7, 4, 2, 8)),
     (56, (3, -6, 2, 1, -8), (5, -8, 6, 8, -5)),
